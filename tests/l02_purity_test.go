@@ -22,6 +22,8 @@ func writtenDown(list ...any) string {
 		switch x := x.(type) {
 		case float32:
 			samples([]float32{x})
+		case []float32:
+			samples(x)
 		case impl.Block:
 			samples(x[:])
 		case impl.Ring:
@@ -34,6 +36,12 @@ func writtenDown(list ...any) string {
 		case []impl.Filter:
 			for _, f := range x {
 				out = append(out, writtenDown(f))
+			}
+		case impl.String:
+			out = append(out, writtenDown(x.Loop, x.Tune, x.Damp, x.Loss))
+		case []impl.String:
+			for _, y := range x {
+				out = append(out, writtenDown(y))
 			}
 		default:
 			out = append(out, x)
