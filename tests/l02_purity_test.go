@@ -37,6 +37,12 @@ func writtenDown(list ...any) string {
 			for _, f := range x {
 				out = append(out, writtenDown(f))
 			}
+		case []impl.Ring:
+			for _, r := range x {
+				out = append(out, writtenDown(r))
+			}
+		case impl.Pipe:
+			out = append(out, writtenDown(x.Right, x.Left, x.Scatter, x.End, x.Open, x.Loss, x.Rest, x.Slope))
 		case impl.String:
 			out = append(out, writtenDown(x.Loop, x.Tune, x.Damp, x.Loss))
 		case []impl.String:
