@@ -41,6 +41,12 @@ func writtenDown(list ...any) string {
 			for _, r := range x {
 				out = append(out, writtenDown(r))
 			}
+		case impl.Table:
+			samples(x[:])
+		case impl.Bow:
+			out = append(out, writtenDown(x.Neck, x.Bridge, x.Damp, x.Slope, x.Loss))
+		case impl.Jet:
+			out = append(out, writtenDown(x.Throat, x.Bore, x.Low, x.Dc, x.Near, x.Far))
 		case impl.Pipe:
 			out = append(out, writtenDown(x.Right, x.Left, x.Scatter, x.End, x.Open, x.Loss, x.Rest, x.Slope))
 		case impl.String:

@@ -172,7 +172,11 @@ var noScatters = []float32{math.Nextafter32(1, 2), math.Nextafter32(-1, -2), 2, 
 
 // reedOf is the share of the document, written down once more.
 func reedOf(rest, slope, difference float32) float32 {
-	a := sumOf(rest, proOf(slope, difference))
+	return clampOf(sumOf(rest, proOf(slope, difference)))
+}
+
+// clampOf is ClampSample with the limit 1.
+func clampOf(a float32) float32 {
 	switch {
 	case a > 1:
 		return 1
