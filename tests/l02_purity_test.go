@@ -26,6 +26,8 @@ func writtenDown(list ...any) string {
 			samples(x)
 		case impl.Block:
 			samples(x[:])
+		case [4]float32:
+			samples(x[:])
 		case impl.Ring:
 			samples(x.Samples)
 			out = append(out, x.At)
@@ -47,6 +49,14 @@ func writtenDown(list ...any) string {
 			out = append(out, writtenDown(x.Neck, x.Bridge, x.Damp, x.Slope, x.Loss))
 		case impl.Jet:
 			out = append(out, writtenDown(x.Throat, x.Bore, x.Low, x.Dc, x.Near, x.Far))
+		case impl.Comb:
+			out = append(out, writtenDown(x.Ring, x.Gain))
+		case []impl.Tap:
+			for _, y := range x {
+				out = append(out, y.Back, writtenDown(y.Gain))
+			}
+		case impl.Room:
+			out = append(out, writtenDown(x.Early, x.Taps, x.Combs[0], x.Combs[1], x.Loops[:], x.Damps[:], x.Gains[:], x.Dry, x.Wet))
 		case impl.Pipe:
 			out = append(out, writtenDown(x.Right, x.Left, x.Scatter, x.End, x.Open, x.Loss, x.Rest, x.Slope))
 		case impl.String:

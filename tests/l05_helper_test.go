@@ -9,7 +9,7 @@ import (
 	"loop.example/g01173/impl"
 )
 
-// model has what the document tells of bows and jets alike.
+// model has what the document tells of bows, jets and rooms alike.
 type model[T any] struct {
 	name     string
 	step     func(x T, in float32) (T, float32, int64)
@@ -25,23 +25,27 @@ type model[T any] struct {
 	told  func(x T, in float32) (T, float32)
 	parts func(x *T) parts
 	kinds []int64
-	news  []T
+	// most samples that may come in at once.
+	most int
+	news []T
 }
 
-// parts lead to what a bow or a jet has, so that it can be changed.
+// parts lead to what a bow, a jet or a room has, so that it can be changed.
 type parts struct {
 	rings   []*impl.Ring
 	filters []*impl.Filter
 	numbers []*float32
+	// taps are nil but for a room, where they are of the first ring.
+	taps *[]impl.Tap
 }
 
 func bows() model[impl.Bow] {
 	return model[impl.Bow]{
 		"bow", impl.StepBow, impl.PlayBow, impl.BlockOfBow, impl.MuteBow, impl.IsSilentBow, impl.ValidBow, impl.SameBow, impl.BowText, impl.ReadBow, stepOfBow,
 		func(x *impl.Bow) parts {
-			return parts{[]*impl.Ring{&x.Neck, &x.Bridge}, []*impl.Filter{&x.Damp}, []*float32{&x.Slope, &x.Loss}}
+			return parts{[]*impl.Ring{&x.Neck, &x.Bridge}, []*impl.Filter{&x.Damp}, []*float32{&x.Slope, &x.Loss}, nil}
 		},
-		[]int64{impl.FkOnePole},
+		[]int64{impl.FkOnePole}, impl.MaxDraw,
 		[]impl.Bow{newBow(2, 0.5, 0, 1, 0), newBow(10, 0.25, 0.5, 0.9, 3), newBow(100, 0.1, 0.3, 0.99, -5), newBow(impl.MaxRing, 0.2, 0.1, 1, 1)},
 	}
 }
@@ -50,9 +54,9 @@ func jets() model[impl.Jet] {
 	return model[impl.Jet]{
 		"jet", impl.StepJet, impl.PlayJet, impl.BlockOfJet, impl.MuteJet, impl.IsSilentJet, impl.ValidJet, impl.SameJet, impl.JetText, impl.ReadJet, stepOfJet,
 		func(x *impl.Jet) parts {
-			return parts{[]*impl.Ring{&x.Throat, &x.Bore}, []*impl.Filter{&x.Low, &x.Dc}, []*float32{&x.Near, &x.Far}}
+			return parts{[]*impl.Ring{&x.Throat, &x.Bore}, []*impl.Filter{&x.Low, &x.Dc}, []*float32{&x.Near, &x.Far}, nil}
 		},
-		[]int64{impl.FkOnePole, impl.FkBlock},
+		[]int64{impl.FkOnePole, impl.FkBlock}, impl.MaxDraw,
 		[]impl.Jet{newJet(1, 1, 0, 0, 0), newJet(3, 7, 0.5, 0.4, -0.6), newJet(20, 40, 0.3, -1, 1), newJet(impl.MaxRing, impl.MaxRing, 0.1, 0.5, 0.5)},
 	}
 }
@@ -90,12 +94,19 @@ func (m model[T]) want(t *testing.T, name string, got, expected T) {
 	for i := range g.numbers {
 		wantSample(t, name+", a number", *g.numbers[i], *e.numbers[i])
 	}
+	if g.taps != nil {
+		wantTaps(t, name, *g.taps, *e.taps)
+	}
 }
 
 // copied shares no memory with x, so that tests may change it.
 func (m model[T]) copied(x T) T {
-	for _, r := range m.parts(&x).rings {
+	p := m.parts(&x)
+	for _, r := range p.rings {
 		r.Samples = slices.Clone(r.Samples)
+	}
+	if p.taps != nil {
+		*p.taps = slices.Clone(*p.taps)
 	}
 	return x
 }
@@ -133,8 +144,8 @@ func loudRing(r *rand.Rand, n int64) impl.Ring {
 	return ring
 }
 
-// valid has bows or jets with samples, states and numbers of all kinds, and
-// rings of unlike lengths.
+// valid has bows, jets or rooms with samples, states and numbers of all kinds,
+// and rings of unlike lengths.
 func (m model[T]) valid() []T {
 	random := newRandom()
 	filters := validFilters()
@@ -167,12 +178,25 @@ func (m model[T]) valid() []T {
 		for _, a := range p.numbers {
 			*a = []float32{0.9, -0.9, 0.4, 3, 1, 0, minusZero, leastSample, greatest, -1.5}[random.IntN(10)]
 		}
+		if p.taps != nil {
+			*p.taps = tapsOf(random, int64(len(p.rings[0].Samples)), i%(impl.MaxTaps+1))
+		}
 		list = append(list, x)
 	}
 	return list
 }
 
-// invalid has bows or jets that break one rule each, beside good parts.
+// tapsOf may have several taps with the same Back.
+func tapsOf(r *rand.Rand, length int64, count int) []impl.Tap {
+	var taps []impl.Tap
+	for range count {
+		gain := []float32{0.5, -0.7, 0.3, 1, 0, minusZero, leastSample, greatest, -1.5}[r.IntN(9)]
+		taps = append(taps, impl.Tap{Back: []int64{1, length, 1 + r.Int64N(length)}[r.IntN(3)], Gain: gain})
+	}
+	return taps
+}
+
+// invalid has bows, jets or rooms that break one rule each, beside good parts.
 func (m model[T]) invalid() []T {
 	var none T
 	list := []T{none}
@@ -201,6 +225,18 @@ func (m model[T]) invalid() []T {
 	for i := range m.parts(&none).numbers {
 		for _, a := range noForces {
 			with(func(p parts) { *p.numbers[i] = a })
+		}
+	}
+	if m.parts(&none).taps == nil {
+		return list
+	}
+	with(func(p parts) { *p.taps = slices.Repeat(*p.taps, impl.MaxTaps)[:impl.MaxTaps+1] })
+	for i := range *m.parts(&m.news[1]).taps {
+		for _, a := range noForces {
+			with(func(p parts) { (*p.taps)[i].Gain = a })
+		}
+		for _, n := range []int64{0, -1, int64(len(m.parts(&m.news[1]).rings[0].Samples)) + 1, 1 << 32, 1<<32 + 1, math.MaxInt64, math.MinInt64} {
+			with(func(p parts) { (*p.taps)[i].Back = n })
 		}
 	}
 	return list

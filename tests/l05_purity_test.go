@@ -9,7 +9,7 @@ import (
 	"loop.example/g01173/impl"
 )
 
-// answersOf has what the functions answer that bows and jets have alike.
+// answersOf has what the functions answer that bows, jets and rooms have alike.
 func (m model[T]) answersOf(x, y T, a float32, in []float32, b impl.Block) []any {
 	list := []any{m.isValid(x), m.isSame(x, y), m.text(x)}
 	made, out, code := m.step(x, a)
@@ -75,25 +75,24 @@ func answersAreTheSame[T any](t *testing.T, m model[T], answers func(x, y T, a, 
 	}
 }
 
-// spare has rings that lie in the middle of one memory, so that both have unused
+// spare has rings that lie in the middle of one memory, so that all have unused
 // capacity; they are one and the same list if shared is true.
 func (m model[T]) spare(at int64, shared bool) (T, []float32) {
-	memory := make([]float32, 24)
+	x := m.copied(m.news[1])
+	rings := m.parts(&x).rings
+	memory := make([]float32, 12*len(rings))
 	for i := range memory {
 		memory[i] = float32(i+1) / 32
 	}
-	x := m.news[1]
-	rings := m.parts(&x).rings
-	*rings[0] = impl.Ring{Samples: memory[2:5], At: at % 3}
-	*rings[1] = impl.Ring{Samples: memory[12:17], At: at}
-	if shared {
-		rings[1].Samples = memory[2:5]
-		rings[1].At = at % 3
+	for i, r := range rings {
+		n := pick(i == 0 || shared, int64(3), 5)
+		first := pick(shared, 2, int64(2+10*i))
+		*r = impl.Ring{Samples: memory[first : first+n], At: at % n}
 	}
 	return x, memory
 }
 
-// changers return bows or jets that x becomes, or is read from.
+// changers return bows, jets or rooms that x becomes, or is read from.
 func (m model[T]) changers() []func(x T) T {
 	return []func(x T) T{
 		func(x T) T { y, _, _ := m.step(x, 0.4); return y },
@@ -129,13 +128,14 @@ func sharesNothing[T any](t *testing.T, m model[T], changers []func(x T) T) {
 			want(t, "valid", m.isValid(first), true)
 			wantSamples(t, "the memory", memory, before)
 			kept := writtenDown(second)
-			p := m.parts(&first)
-			beside := writtenDown(*p.rings[1])
-			overwrite(p.rings[0].Samples)
-			if writtenDown(*p.rings[1]) != beside {
-				t.Errorf("%s, change %d: the rings share memory", m.name, i)
+			rings := m.parts(&first).rings
+			for j, r := range rings {
+				beside := writtenDown(ringsBut(rings, j))
+				overwrite(r.Samples)
+				if writtenDown(ringsBut(rings, j)) != beside {
+					t.Errorf("%s, change %d: the rings share memory", m.name, i)
+				}
 			}
-			overwrite(p.rings[1].Samples)
 			wantSamples(t, "the memory behind", memory, before)
 			overwrite(memory)
 			if writtenDown(second) != kept {
@@ -143,6 +143,16 @@ func sharesNothing[T any](t *testing.T, m model[T], changers []func(x T) T) {
 			}
 		}
 	}
+}
+
+func ringsBut(rings []*impl.Ring, k int) []impl.Ring {
+	var list []impl.Ring
+	for i, r := range rings {
+		if i != k {
+			list = append(list, *r)
+		}
+	}
+	return list
 }
 
 func TestP1RingsOfBowsAndJetsBesideEachOther(t *testing.T) {
@@ -187,8 +197,8 @@ func TestP1ReturnsForLongArgumentsOfChapter5(t *testing.T) {
 }
 
 func longIsTaken[T any](t *testing.T, m model[T], good string) {
-	for i := range 2 {
-		x := m.news[1]
+	for i := range m.parts(&m.news[1]).rings {
+		x := m.copied(m.news[1])
 		*m.parts(&x).rings[i] = impl.Ring{Samples: make([]float32, 1000000), At: 3}
 		want(t, m.name, m.isValid(x), false)
 		want(t, m.name+", same", m.isSame(x, m.copied(x)), true)
@@ -210,8 +220,8 @@ func TestP1NilAndEmptyListsAreEquivalentForBowsAndJets(t *testing.T) {
 }
 
 func nothingIsNothing[T any](t *testing.T, m model[T]) {
-	for i := range 2 {
-		none, empty := m.news[1], m.news[1]
+	for i := range m.parts(&m.news[1]).rings {
+		none, empty := m.copied(m.news[1]), m.copied(m.news[1])
 		m.parts(&none).rings[i].Samples, m.parts(&empty).rings[i].Samples = nil, []float32{}
 		want(t, m.name, m.isSame(none, empty) && m.isSame(empty, none), true)
 		want(t, m.name, m.isValid(none) || m.isValid(empty), false)

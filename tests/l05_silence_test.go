@@ -88,7 +88,11 @@ func silenceIsOfAll[T any](t *testing.T, m model[T]) {
 		x := m.copied(m.news[1])
 		p := m.parts(&x)
 		for i, r := range p.rings {
-			*r = impl.Ring{Samples: make([]float32, lengths[i]), At: lengths[i] - 1}
+			n := lengths[i%2]
+			*r = impl.Ring{Samples: make([]float32, n), At: n - 1}
+		}
+		if p.taps != nil {
+			*p.taps = nil
 		}
 		for _, a := range finiteSamples {
 			for i := range p.rings {
@@ -108,6 +112,7 @@ func silenceIsOfAll[T any](t *testing.T, m model[T]) {
 	for _, r := range m.parts(&long).rings {
 		n := len(r.Samples)
 		for _, j := range []int{0, 1, 15, 16, n / 2, n - 17, n - 16, n - 1} {
+			j = min(max(j, 0), n-1)
 			r.Samples[j] = leastSample
 			wantSilent(t, m, long, false)
 			r.Samples[j] = 0

@@ -100,13 +100,13 @@ func countsAreKept[T any](t *testing.T, m model[T]) {
 		}
 	}
 	x := m.news[1]
-	in, _ := impl.BreathRamp(0.1, 0.9, impl.MaxDraw)
+	in, _ := impl.BreathRamp(0.1, 0.9, int64(m.most))
 	behind, expected := m.toldPlay(x, in)
 	y, made, code := m.play(x, in)
 	want(t, m.name+", most", code, impl.OK)
 	wantSamples(t, m.name+", most", made, expected)
 	m.want(t, m.name+", most", y, behind)
-	for _, n := range []int{impl.MaxDraw + 1, 2 * impl.MaxDraw, 100000} {
+	for _, n := range []int{m.most + 1, 2 * m.most, 100000} {
 		wantNotDrawn(t, m, x, make([]float32, n), impl.ErrLimit)
 		for _, y := range m.invalid() {
 			wantNotDrawn(t, m, y, make([]float32, n), impl.ErrInvalid)
@@ -200,6 +200,9 @@ func samenessIsTold[T any](t *testing.T, m model[T]) {
 		wantOther(t, m, x, func(p parts) { p.filters[i].S[0] = minusZero })
 		wantOther(t, m, x, func(p parts) { p.filters[i].S[1] = 1 })
 	}
+	if p.taps != nil {
+		samenessOfTapsIsTold(t, m, x)
+	}
 	for i := range p.numbers {
 		wantOther(t, m, x, func(p parts) { *p.numbers[i] = -*p.numbers[i] })
 		wantOther(t, m, x, func(p parts) { *p.numbers[i] = nan })
@@ -213,6 +216,25 @@ func samenessIsTold[T any](t *testing.T, m model[T]) {
 	}
 	p.rings[1].Samples[0], q.rings[1].Samples[0] = otherNaN, nan
 	want(t, "another NaN", m.isSame(x, y), true)
+}
+
+func samenessOfTapsIsTold[T any](t *testing.T, m model[T], x T) {
+	for i := range *m.parts(&x).taps {
+		wantOther(t, m, x, func(p parts) { (*p.taps)[i].Back++ })
+		wantOther(t, m, x, func(p parts) { (*p.taps)[i].Gain = 0.125 })
+		wantOther(t, m, x, func(p parts) { (*p.taps)[i].Gain = nan })
+	}
+	wantOther(t, m, x, func(p parts) { *p.taps = (*p.taps)[1:] })
+	wantOther(t, m, x, func(p parts) { *p.taps = nil })
+	wantOther(t, m, x, func(p parts) { *p.taps = append(*p.taps, impl.Tap{}) })
+	wantOther(t, m, x, func(p parts) { (*p.taps)[0], (*p.taps)[1] = (*p.taps)[1], (*p.taps)[0] })
+	y := m.copied(x)
+	(*m.parts(&x).taps)[0].Gain = minusZero
+	(*m.parts(&y).taps)[0].Gain = 0
+	want(t, "the sign of 0", m.isSame(x, y), false)
+	(*m.parts(&x).taps)[0].Gain = nan
+	(*m.parts(&y).taps)[0].Gain = otherNaN
+	want(t, "another NaN of a tap", m.isSame(x, y), true)
 }
 
 func wantOther[T any](t *testing.T, m model[T], x T, change func(p parts)) {

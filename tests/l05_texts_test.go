@@ -103,11 +103,15 @@ func wantNoOtherText[T any](t *testing.T, m model[T], text string) {
 	}
 	lines := strings.SplitAfter(text, "\n")
 	last := len(lines) - 1
+	// Taps may be any, and in any order.
+	isTap := func(i int) bool { return strings.HasPrefix(lines[i], "tap ") }
 	for i := range last {
 		rest := strings.Join(lines[i+1:], "")
-		wantNoRead(t, m, strings.Join(lines[:i], "")+rest)
-		wantNoRead(t, m, strings.Join(lines[:i+1], "")+lines[i]+rest)
-		if i > 0 && i < last-1 {
+		if !isTap(i) {
+			wantNoRead(t, m, strings.Join(lines[:i], "")+rest)
+			wantNoRead(t, m, strings.Join(lines[:i+1], "")+lines[i]+rest)
+		}
+		if i > 0 && i < last-1 && !(isTap(i) && isTap(i-1)) {
 			wantNoRead(t, m, strings.Join(lines[:i-1], "")+lines[i]+lines[i-1]+rest)
 		}
 	}
@@ -167,11 +171,12 @@ func TestP10TextsOfLongBowsAndJets(t *testing.T) {
 
 func longTextsAreRead[T any](t *testing.T, m model[T], short string) {
 	const line = "1 0 00000000\n"
-	head := strings.TrimSuffix(short, line+line)
+	pieces := strings.Split(short, line)
 	for n := impl.MaxRing - 1; n <= impl.MaxRing+1; n++ {
 		for _, at := range []int{0, 10, n - 1, n} {
 			long := strconv.Itoa(n) + " " + strconv.Itoa(at) + strings.Repeat(" 3f800000", n) + "\n"
-			for i, text := range []string{head + long + line, head + line + long} {
+			for i := range len(pieces) - 1 {
+				text := strings.Join(pieces[:i+1], line) + long + strings.Join(pieces[i+1:], line)
 				if n > impl.MaxRing || at == n {
 					wantNoRead(t, m, text)
 					continue
