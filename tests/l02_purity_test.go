@@ -57,6 +57,8 @@ func writtenDown(list ...any) string {
 			}
 		case impl.Room:
 			out = append(out, writtenDown(x.Early, x.Taps, x.Combs[0], x.Combs[1], x.Loops[:], x.Damps[:], x.Gains[:], x.Dry, x.Wet))
+		case impl.Tuning:
+			out = append(out, writtenDown(x.Base, x.Octave, x.Degrees))
 		case impl.Pipe:
 			out = append(out, writtenDown(x.Right, x.Left, x.Scatter, x.End, x.Open, x.Loss, x.Rest, x.Slope))
 		case impl.String:

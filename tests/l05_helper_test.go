@@ -9,7 +9,8 @@ import (
 	"loop.example/g01173/impl"
 )
 
-// model has what the document tells of bows, jets and rooms alike.
+// model has what the document tells of bows, jets and rooms alike, and some of
+// it is told of tunings, too.
 type model[T any] struct {
 	name     string
 	step     func(x T, in float32) (T, float32, int64)
@@ -30,20 +31,22 @@ type model[T any] struct {
 	news []T
 }
 
-// parts lead to what a bow, a jet or a room has, so that it can be changed.
+// parts lead to what a bow, a jet, a room or a tuning has, so that it can be changed.
 type parts struct {
 	rings   []*impl.Ring
 	filters []*impl.Filter
 	numbers []*float32
 	// taps are nil but for a room, where they are of the first ring.
 	taps *[]impl.Tap
+	// list is nil but for a tuning.
+	list *[]float32
 }
 
 func bows() model[impl.Bow] {
 	return model[impl.Bow]{
 		"bow", impl.StepBow, impl.PlayBow, impl.BlockOfBow, impl.MuteBow, impl.IsSilentBow, impl.ValidBow, impl.SameBow, impl.BowText, impl.ReadBow, stepOfBow,
 		func(x *impl.Bow) parts {
-			return parts{[]*impl.Ring{&x.Neck, &x.Bridge}, []*impl.Filter{&x.Damp}, []*float32{&x.Slope, &x.Loss}, nil}
+			return parts{rings: []*impl.Ring{&x.Neck, &x.Bridge}, filters: []*impl.Filter{&x.Damp}, numbers: []*float32{&x.Slope, &x.Loss}}
 		},
 		[]int64{impl.FkOnePole}, impl.MaxDraw,
 		[]impl.Bow{newBow(2, 0.5, 0, 1, 0), newBow(10, 0.25, 0.5, 0.9, 3), newBow(100, 0.1, 0.3, 0.99, -5), newBow(impl.MaxRing, 0.2, 0.1, 1, 1)},
@@ -54,7 +57,7 @@ func jets() model[impl.Jet] {
 	return model[impl.Jet]{
 		"jet", impl.StepJet, impl.PlayJet, impl.BlockOfJet, impl.MuteJet, impl.IsSilentJet, impl.ValidJet, impl.SameJet, impl.JetText, impl.ReadJet, stepOfJet,
 		func(x *impl.Jet) parts {
-			return parts{[]*impl.Ring{&x.Throat, &x.Bore}, []*impl.Filter{&x.Low, &x.Dc}, []*float32{&x.Near, &x.Far}, nil}
+			return parts{rings: []*impl.Ring{&x.Throat, &x.Bore}, filters: []*impl.Filter{&x.Low, &x.Dc}, numbers: []*float32{&x.Near, &x.Far}}
 		},
 		[]int64{impl.FkOnePole, impl.FkBlock}, impl.MaxDraw,
 		[]impl.Jet{newJet(1, 1, 0, 0, 0), newJet(3, 7, 0.5, 0.4, -0.6), newJet(20, 40, 0.3, -1, 1), newJet(impl.MaxRing, impl.MaxRing, 0.1, 0.5, 0.5)},
@@ -96,6 +99,9 @@ func (m model[T]) want(t *testing.T, name string, got, expected T) {
 	}
 	if g.taps != nil {
 		wantTaps(t, name, *g.taps, *e.taps)
+	}
+	if g.list != nil {
+		wantSamples(t, name+", the list", *g.list, *e.list)
 	}
 }
 

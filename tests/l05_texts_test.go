@@ -99,7 +99,9 @@ func wantNoOtherText[T any](t *testing.T, m model[T], text string) {
 		"", " ", "\n", "\n\n\n\n", "\n\n\n\n\n", m.name, m.name + " ", m.name + "\n", text + "\n", text + " ", text + "x", text + text, " " + text, "\n" + text, text + "1 0 00000000\n", text[:len(text)-1] + " ",
 		strings.ReplaceAll(text, "\n", "\r\n"), strings.ReplaceAll(text, "\n", " "), strings.ReplaceAll(text, " ", "\t"), strings.ReplaceAll(text, " ", "\n"), strings.ReplaceAll(text, " ", "  "), strings.ToUpper(text),
 	} {
-		wantNoRead(t, m, other)
+		if other != text { // as a text without newlines is
+			wantNoRead(t, m, other)
+		}
 	}
 	lines := strings.SplitAfter(text, "\n")
 	last := len(lines) - 1
