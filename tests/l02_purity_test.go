@@ -4,6 +4,7 @@ import (
 	"fmt"
 	"math"
 	"slices"
+	"strconv"
 	"strings"
 	"testing"
 
@@ -59,6 +60,23 @@ func writtenDown(list ...any) string {
 			out = append(out, writtenDown(x.Early, x.Taps, x.Combs[0], x.Combs[1], x.Loops[:], x.Damps[:], x.Gains[:], x.Dry, x.Wet))
 		case impl.Tuning:
 			out = append(out, writtenDown(x.Base, x.Octave, x.Degrees))
+		case impl.Instrument:
+			out = append(out, strconv.Quote(x.Name), x.Kind)
+			samples([]float32{x.A, x.B, x.C})
+		case []impl.Instrument:
+			for _, y := range x {
+				out = append(out, writtenDown(y))
+			}
+		case impl.Event:
+			out = append(out, ";", x.At, x.Kind, x.Note, x.Instrument, x.Key)
+			samples([]float32{x.Force})
+		case []impl.Event:
+			for _, y := range x {
+				out = append(out, writtenDown(y))
+			}
+		case impl.Score:
+			samples([]float32{x.Rate})
+			out = append(out, " ", writtenDown(x.Tuning), " ", writtenDown(x.Instruments), " ", writtenDown(x.Events))
 		case impl.Pipe:
 			out = append(out, writtenDown(x.Right, x.Left, x.Scatter, x.End, x.Open, x.Loss, x.Rest, x.Slope))
 		case impl.String:
