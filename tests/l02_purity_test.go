@@ -77,6 +77,14 @@ func writtenDown(list ...any) string {
 		case impl.Score:
 			samples([]float32{x.Rate})
 			out = append(out, " ", writtenDown(x.Tuning), " ", writtenDown(x.Instruments), " ", writtenDown(x.Events))
+		case impl.Voice:
+			out = append(out, ";", x.Note, x.Instrument, x.Born, x.Gone, writtenDown(x.Drive, x.String, x.Pipe, x.Bow))
+		case []impl.Voice:
+			for _, y := range x {
+				out = append(out, writtenDown(y))
+			}
+		case impl.Player:
+			out = append(out, writtenDown(x.Score, x.Voices), ";", x.Now, x.Next, x.Skipped)
 		case impl.Pipe:
 			out = append(out, writtenDown(x.Right, x.Left, x.Scatter, x.End, x.Open, x.Loss, x.Rest, x.Slope))
 		case impl.String:
