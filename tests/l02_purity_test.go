@@ -85,6 +85,24 @@ func writtenDown(list ...any) string {
 			}
 		case impl.Player:
 			out = append(out, writtenDown(x.Score, x.Voices), ";", x.Now, x.Next, x.Skipped)
+		case []impl.Block:
+			for _, y := range x {
+				out = append(out, ";", writtenDown(y))
+			}
+		case []impl.Bench:
+			for _, y := range x {
+				out = append(out, ";", y.Busy, y.Index, strconv.Quote(y.State))
+			}
+		case impl.Cargo:
+			out = append(out, ";", x.Back, x.Worker, x.Index, strconv.Quote(x.State), writtenDown(x.Samples), x.Check)
+		case []impl.Cargo:
+			for _, y := range x {
+				out = append(out, writtenDown(y))
+			}
+		case impl.Hall:
+			out = append(out, writtenDown(x.Done), strconv.Quote(x.State), x.Synced, strconv.Quote(x.Kept), writtenDown(x.Benches, x.Wire))
+		case impl.Stage:
+			out = append(out, writtenDown(x.Score), ";", x.Voices, x.Blocks, x.Workers)
 		case impl.Pipe:
 			out = append(out, writtenDown(x.Right, x.Left, x.Scatter, x.End, x.Open, x.Loss, x.Rest, x.Slope))
 		case impl.String:
